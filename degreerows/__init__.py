@@ -1,0 +1,1 @@
+"""Degreerows: rows of degrees, their pieces, and rows that tell the whole web."""
