@@ -6,6 +6,9 @@ from degreerows.limits import MOST_COUNT, MOST_DEGREE, MOST_KINDS
 
 FIRST_LINE = "row"
 
+# How sides can be read, in the order in which readings are told.
+READINGS = ("plain", "exchanged", "opposite", "turned")
+
 # The greatest degree has 32 figures; int() refuses numerals that are far longer.
 _MOST_FIGURES = 32
 
@@ -34,6 +37,65 @@ def are_kinds(value):
 def counted_kinds(counts):
     """The kinds of a dict that tells how many places have each degree."""
     return tuple([(degree, counts[degree]) for degree in sorted(list(counts), reverse=True) if counts[degree] > 0])
+
+
+def merged_kinds(parts):
+    """The kinds of all the places that the parts, kinds each, have together."""
+    counts = {}
+    for kinds in parts:
+        for degree, many in kinds:
+            counts[degree] = counts.get(degree, 0) + many
+    return counted_kinds(counts)
+
+
+def places_of(kinds):
+    return sum([many for _, many in kinds])
+
+
+def ends_of(kinds):
+    return sum([degree * many for degree, many in kinds])
+
+
+def shifted_kinds(kinds, by):
+    return tuple([(degree + by, many) for degree, many in kinds])
+
+
+def opposite_kinds(kinds, most):
+    """The kinds with the degrees most - d instead of d."""
+    return tuple([(most - degree, many) for degree, many in kinds[::-1]])
+
+
+def are_within(inner, outer):
+    """Whether no degree of a side is above the number of places of the other side."""
+    return inner[0][0] <= places_of(outer) and outer[0][0] <= places_of(inner)
+
+
+def read_sides(inner, outer, reading):
+    """The inner and the outer kinds of sides in one of the readings."""
+    if reading == "plain":
+        return (inner, outer)
+    if reading == "exchanged":
+        return (outer, inner)
+    turned_inner = opposite_kinds(inner, places_of(outer))
+    turned_outer = opposite_kinds(outer, places_of(inner))
+    if reading == "turned":
+        return (turned_inner, turned_outer)
+    return (turned_outer, turned_inner)
+
+
+def split_kinds(kinds, number):
+    """The kinds of so many greatest places, and those of the others."""
+    greatest = []
+    others = []
+    left = number
+    for degree, many in kinds:
+        taken = min(many, left)
+        left -= taken
+        if taken > 0:
+            greatest.append((degree, taken))
+        if many > taken:
+            others.append((degree, many - taken))
+    return (tuple(greatest), tuple(others))
 
 
 def moved_kinds(kinds, one, mate, by):

@@ -5,7 +5,8 @@ from degreerows.errors import (
     Cannot, InvalidChanges, InvalidDegree, InvalidDegrees, InvalidKinds, InvalidNumber, InvalidText, NotRow, TooGreat,
 )
 from degreerows.kinds import (
-    are_kinds, counted_kinds, kind_lines, kinds_text, moved_kinds, need_few, read_kinds, wrong_kind,
+    are_kinds, counted_kinds, ends_of, kind_lines, kinds_text, moved_kinds, need_few, opposite_kinds, places_of,
+    read_kinds, wrong_kind,
 )
 from degreerows.limits import MOST_DEGREE, MOST_KINDS
 
@@ -45,11 +46,11 @@ class Row:
 
     @property
     def places(self):
-        return sum([many for _, many in self._kinds])
+        return places_of(self._kinds)
 
     @property
     def ends(self):
-        return sum([degree * many for degree, many in self._kinds])
+        return ends_of(self._kinds)
 
     @property
     def text(self):
@@ -79,7 +80,7 @@ class Row:
         most = self.places - 1
         if self._kinds[0][0] > most:
             raise Cannot(self)
-        return Row(tuple([(most - degree, many) for degree, many in self._kinds[::-1]]))
+        return Row(opposite_kinds(self._kinds, most))
 
     def changed(self, changes):
         if not isinstance(changes, tuple):

@@ -2,6 +2,7 @@
 
 from degreerows import errors
 from degreerows.rows import Row
+from degreerows.sides import Sides
 
 
 class Odd:
@@ -21,12 +22,17 @@ def nest():
     return Row.read(NEST_TEXT)
 
 
+def path():
+    """The sides of a web of four places, one behind another."""
+    return Sides(((1, 2),), ((1, 2),))
+
+
 def strange():
     """Values of any kind; none of them is an integer, a filled tuple that is right somewhere, or the text of a row."""
     return [
         None, True, False, "", "x", "row", "7", "7 x 2", "row\n", b"row\n7 x 2", [], [(7, 2)], [7, 4], ["1 x 2", ""],
         {}, {7: 2}, {7, 4}, frozenset([7]), object(), Odd(), Row, nest, nest(), range(3), iter([1]), 1j, len,
-        errors.Cannot(3), errors.InvalidKinds, NotImplemented, ...,
+        errors.Cannot(3), errors.InvalidKinds, NotImplemented, ..., path(), Sides,
     ]
 
 
