@@ -12,14 +12,14 @@ def can_be(row):
 
 def barred(row):
     need_row(row)
-    return _barred(row.kinds)
+    return barred_kinds(row.kinds)
 
 
 def room(row, k):
     need_row(row)
     if not is_between(k, 1, row.places):
         raise InvalidNumber(k)
-    return _room(row.kinds, k)
+    return room_of_kinds(row.kinds, k)
 
 
 def need_can_be(row):
@@ -30,7 +30,7 @@ def need_can_be(row):
 
 def kinds_can_be(kinds):
     """Whether kinds can be, which may be more, and greater, than those of a row."""
-    return _barred(kinds) is None
+    return barred_kinds(kinds) is None
 
 
 def turns(kinds):
@@ -49,13 +49,14 @@ def turns(kinds):
     return sorted({k for k in marks if 0 < k <= end})
 
 
-def _barred(kinds):
+def barred_kinds(kinds):
+    """As `barred`, for kinds that may be more, and greater, than those of a row."""
     if ends_of(kinds) % 2 == 1:
         return 0
     before = 0
     spare = 0
     for k in turns(kinds):
-        now = _room(kinds, k)
+        now = room_of_kinds(kinds, k)
         if now < 0:
             # Between two turns the room falls by the same number with each k.
             fall = (spare - now) // (k - before)
@@ -65,7 +66,8 @@ def _barred(kinds):
     return None
 
 
-def _room(kinds, k):
+def room_of_kinds(kinds, k):
+    """As `room`, for kinds that may be more, and greater, than those of a row."""
     spare = k * (k - 1)
     left = k
     for degree, many in kinds:

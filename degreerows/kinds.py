@@ -83,6 +83,17 @@ def read_sides(inner, outer, reading):
     return (turned_outer, turned_inner)
 
 
+def listed_degrees(kinds):
+    """The degrees of all places, the greatest first, where there are few."""
+    return [degree for degree, many in kinds for _ in range(many)]
+
+
+def kinds_around(inner, outer, kinds):
+    """The kinds that come of sides around kinds, () standing for no places; they may be beyond the limits of a row."""
+    places = places_of(inner)
+    return merged_kinds([shifted_kinds(inner, places - 1 + places_of(kinds)), shifted_kinds(kinds, places), outer])
+
+
 def split_kinds(kinds, number):
     """The kinds of so many greatest places, and those of the others."""
     greatest = []

@@ -23,10 +23,7 @@ class Row:
 
     @classmethod
     def read(cls, text):
-        kinds = read_kinds(text)
-        if kinds is None:
-            raise InvalidText(text)
-        return cls(kinds)
+        return cls(need_kinds(text))
 
     @classmethod
     def listed(cls, degrees):
@@ -85,13 +82,12 @@ class Row:
     def changed(self, changes):
         if not isinstance(changes, tuple):
             raise InvalidChanges(None)
-        news = {}
+        olds = []
         for index, change in enumerate(changes):
-            if not is_change(self, change) or change[0] in news:
+            if not is_change(self, change) or change[0] in olds:
                 raise InvalidChanges(index)
-            news[change[0]] = change[1]
-        lines = [news.get(line, line) for line in kind_lines(self._kinds)]
-        return Row.read(kinds_text([line for line in lines if line != ""]))
+            olds.append(change[0])
+        return Row(need_kinds(changed_text(self, changes)))
 
     def __eq__(self, other):
         return isinstance(other, Row) and self._kinds == other._kinds
@@ -123,14 +119,36 @@ def is_change(row, value):
     return value[0] in kind_lines(row.kinds) and "\n" not in value[1]
 
 
+def changed_text(row, changes):
+    """The text with these changes, no two of them of one line."""
+    news = {old: new for old, new in changes}
+    lines = [news.get(line, line) for line in kind_lines(row.kinds)]
+    return kinds_text([line for line in lines if line != ""])
+
+
+def need_kinds(text):
+    """The kinds of the row that has this text; raises InvalidText if it is the text of none."""
+    kinds = read_kinds(text)
+    if kinds is None:
+        raise InvalidText(text)
+    return kinds
+
+
 def need_row(value):
     if not isinstance(value, Row):
         raise NotRow(value)
+
+
+def has_places(row, one, mate):
+    """Whether the row has two places of these degrees."""
+    if row.count(one) == 0 or row.count(mate) == 0:
+        return False
+    return mate != one or row.count(one) > 1
 
 
 def need_places(row, one, mate):
     """Raises InvalidDegree unless the row has two places of these degrees."""
     if row.count(one) == 0:
         raise InvalidDegree(one)
-    if row.count(mate) == 0 or (mate == one and row.count(one) == 1):
+    if not has_places(row, one, mate):
         raise InvalidDegree(mate)

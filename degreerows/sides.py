@@ -3,7 +3,7 @@
 from degreerows.errors import Cannot, InvalidInner, InvalidNumber, InvalidOuter, NotSides, TooGreat
 from degreerows.judging import need_can_be
 from degreerows.kinds import (
-    READINGS, are_kinds, are_within, ends_of, merged_kinds, need_few, places_of, read_sides, shifted_kinds, wrong_kind,
+    READINGS, are_kinds, are_within, ends_of, kinds_around, need_few, read_sides, wrong_kind,
 )
 from degreerows.limits import MOST_DEGREE
 from degreerows.rows import Row, need_row
@@ -52,7 +52,7 @@ def sides_can_be(sides):
 def sides_one(sides):
     need_sides(sides)
     # Webs of sides are alike exactly if, with all inner places tied, they are alike as webs of that row.
-    return _can_be(sides.inner, sides.outer) and leaves_no_choice(_kinds_around(sides, ()))
+    return _can_be(sides.inner, sides.outer) and leaves_no_choice(kinds_around(sides.inner, sides.outer, ()))
 
 
 def around(sides, row):
@@ -60,13 +60,13 @@ def around(sides, row):
     need_row(row)
     _need_can_be(sides)
     need_can_be(row)
-    return _limited_row(_kinds_around(sides, row.kinds))
+    return _limited_row(kinds_around(sides.inner, sides.outer, row.kinds))
 
 
 def alone_row(sides):
     need_sides(sides)
     _need_can_be(sides)
-    return _limited_row(_kinds_around(sides, ()))
+    return _limited_row(kinds_around(sides.inner, sides.outer, ()))
 
 
 def need_sides(value):
@@ -94,13 +94,6 @@ def _can_be(inner, outer):
         if taken > sum([others * min(other, number) for other, others in outer]):
             return False
     return True
-
-
-def _kinds_around(sides, kinds):
-    """The kinds that come of the sides around kinds, () for no places; they may be beyond the limits of a row."""
-    places = places_of(sides.inner)
-    inner = shifted_kinds(sides.inner, places - 1 + places_of(kinds))
-    return merged_kinds([inner, shifted_kinds(kinds, places), sides.outer])
 
 
 def _limited_row(kinds):

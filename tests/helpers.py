@@ -1,6 +1,9 @@
 """What several tests need: values of any kind, and a look at errors."""
 
 from degreerows import errors
+from degreerows.consoles import Console
+from degreerows.drafts import Draft
+from degreerows.libraries import Library
 from degreerows.rows import Row
 from degreerows.sides import Sides
 
@@ -13,6 +16,13 @@ class Odd:
 
     def __bool__(self):
         raise AssertionError("tested")
+
+
+class Same:
+    """A value that says of itself that it equals everything."""
+
+    def __eq__(self, other):
+        return True
 
 
 NEST_TEXT = "row\n7 x 2\n4 x 5\n1 x 2"
@@ -32,7 +42,8 @@ def strange():
     return [
         None, True, False, "", "x", "row", "7", "7 x 2", "row\n", b"row\n7 x 2", [], [(7, 2)], [7, 4], ["1 x 2", ""],
         {}, {7: 2}, {7, 4}, frozenset([7]), object(), Odd(), Row, nest, nest(), range(3), iter([1]), 1j, len,
-        errors.Cannot(3), errors.InvalidKinds, NotImplemented, ..., path(), Sides,
+        errors.Cannot(3), errors.InvalidKinds, NotImplemented, ..., path(), Sides, Same(), Draft(nest()), Console(),
+        Library(), Draft(nest()).trial(), Library().trial(), Library,
     ]
 
 
@@ -40,6 +51,7 @@ def strange_tuples():
     """Tuples of any kind; none of them is right anywhere."""
     return [
         (None,), (True,), ("x",), ((),), (((),),), ((1,),), ((1, 2, 3),), ([1, 2],), (nest(),), (Odd(),), ((Odd(), 1),),
+        (Same(),), ((Same(), Same()),), (Library(), Draft(nest())),
     ]
 
 
