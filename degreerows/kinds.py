@@ -88,6 +88,11 @@ def listed_degrees(kinds):
     return [degree for degree, many in kinds for _ in range(many)]
 
 
+def kinds_of(degrees):
+    """The kinds of places that are listed, in any order."""
+    return counted_kinds({degree: degrees.count(degree) for degree in degrees})
+
+
 def kinds_around(inner, outer, kinds):
     """The kinds that come of sides around kinds, () standing for no places; they may be beyond the limits of a row."""
     places = places_of(inner)

@@ -1,7 +1,7 @@
 """The nearest rows with one web."""
 
 from degreerows.errors import TooMany
-from degreerows.kinds import counted_kinds, listed_degrees
+from degreerows.kinds import kinds_of, listed_degrees
 from degreerows.limits import MOST_NEAR
 from degreerows.rows import Row, need_row
 from degreerows.single import has_one_web
@@ -24,7 +24,7 @@ def nearest(row):
 
 def _with_one_web(lists):
     """The rows of these lists of degrees that have one web, ascending by their kinds."""
-    rows = [Row(kinds) for kinds in sorted([_kinds_of(degrees) for degrees in lists])]
+    rows = [Row(kinds) for kinds in sorted([kinds_of(degrees) for degrees in lists])]
     return tuple([row for row in rows if has_one_web(row)])
 
 
@@ -46,7 +46,3 @@ def _lists_of(places):
     for _ in range(places - 1):
         lists = [(*degrees, degree) for degrees in lists for degree in range(degrees[-1] + 1)]
     return lists
-
-
-def _kinds_of(degrees):
-    return counted_kinds({degree: degrees.count(degree) for degree in degrees})

@@ -3,7 +3,7 @@
 from degreerows.checks import is_between, is_pair
 from degreerows.errors import InvalidWeb, TooMany
 from degreerows.judging import can_be, need_can_be
-from degreerows.kinds import listed_degrees
+from degreerows.kinds import kinds_of, listed_degrees
 from degreerows.limits import MOST_COUNTED, MOST_PLACES
 from degreerows.rows import Row, need_row
 
@@ -16,7 +16,7 @@ def web(row):
 
 def row_of(n, ties):
     _need_web(n, ties)
-    return Row.listed(tuple([len(mates) for mates in _mates_of(n, ties)]))
+    return Row(kinds_of([len(mates) for mates in _mates_of(n, ties)]))
 
 
 def are_alike(n, ties, others):

@@ -1,6 +1,7 @@
 """Rules for the files of the package that can be read off their text."""
 
 import ast
+import builtins
 import unittest
 from pathlib import Path
 
@@ -56,6 +57,42 @@ class Files(unittest.TestCase):
         for path, node in nodes(ast.Constant):
             self.assertNotIsInstance(node.value, (float, complex), path)
             self.assertFalse(isinstance(node.value, str) and "%" in node.value, path)
+
+    def test_names_of_parameters_and_variables(self):
+        """None of them has the name of a builtin, or of a class, a function or an import of its file."""
+        for path, tree in trees():
+            taken = set(dir(builtins))
+            for node in tree.body:
+                if isinstance(node, (ast.ClassDef, ast.FunctionDef)):
+                    taken.add(node.name)
+                if isinstance(node, ast.ImportFrom):
+                    taken |= {name.name for name in node.names}
+            for node in ast.walk(tree):
+                if isinstance(node, ast.arg):
+                    self.assertNotIn(node.arg, taken, path)
+                if isinstance(node, ast.Name) and isinstance(node.ctx, ast.Store):
+                    self.assertNotIn(node.id, taken, path)
+
+    def test_imports_are_used_and_lead_to_no_ring(self):
+        imports = {}
+        for path, tree in trees():
+            used = {node.id for node in ast.walk(tree) if isinstance(node, ast.Name)}
+            told = [node for node in ast.walk(tree) if isinstance(node, ast.ImportFrom)]
+            for node in told:
+                self.assertLessEqual({name.name for name in node.names}, used, path)
+            imports[f"degreerows.{path.stem}"] = {node.module for node in told}
+        while imports:
+            free = [name for name, needed in imports.items() if not needed & set(imports)]
+            self.assertNotEqual(free, [], imports)
+            imports = {name: needed for name, needed in imports.items() if name not in free}
+
+    def test_what_trials_do_when_they_end(self):
+        """Few statements are let there: no calls, no items, and nothing is read of an error."""
+        for path, node in nodes(ast.FunctionDef):
+            if node.name == "__exit__":
+                for part in ast.walk(node):
+                    self.assertNotIsInstance(part, (ast.Call, ast.Subscript, ast.BinOp), path)
+                    self.assertFalse(isinstance(part, ast.Name) and part.id in ("value", "trace"), path)
 
 
 if __name__ == "__main__":
